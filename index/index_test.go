@@ -63,7 +63,7 @@ func TestScan(t *testing.T) {
 		if !index.Right(l) || index.Total(l) != len(text) {
 			t.Fatal(i, l)
 		}
-		for off := range text {
+		for off := range len(text) {
 			k := index.Find(l, off)
 			if k < 0 || blocks[k].Text[off-l[k].From] != text[off] {
 				t.Fatal(i, off, k)

@@ -102,7 +102,7 @@ func TestVectorAndCycles(t *testing.T) {
 func TestBack(t *testing.T) {
 	for _, last := range texts() {
 		v := slowVector(last)
-		for origin := range last {
+		for origin := range len(last) {
 			want := ""
 			at := v[origin]
 			for range len(last) {
@@ -139,7 +139,7 @@ func TestBackUndoesForward(t *testing.T) {
 		if unturn.Cycles(s) != 1 {
 			continue
 		}
-		for origin := range s {
+		for origin := range len(s) {
 			text, _ := unturn.Back(s, origin)
 			if last, at := turns.Forward(text); last != s || at != origin {
 				t.Errorf("%q %d: %q %d", s, origin, last, at)
