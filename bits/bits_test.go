@@ -51,7 +51,7 @@ func row(n int, seed uint64) string {
 }
 
 var wrongBits = []api.Bits{
-	{N: -1}, {N: 1}, {N: -8}, {Data: "a"}, {Data: "a", N: -8}, {Data: "\x80", N: 9}, {Data: "\x80\x00", N: 8},
+	{N: -1}, {Data: "\x00", N: -1}, {Data: "\x00", N: -7}, {Data: "\x00\x00", N: -9}, {N: 1}, {N: -8}, {Data: "a"}, {Data: "a", N: -8}, {Data: "\x80", N: 9}, {Data: "\x80\x00", N: 8},
 	{Data: "\x01", N: 7}, {Data: "\x80", N: 0}, {Data: "\xff\xff", N: 15}, {Data: "\x40", N: 1}, {Data: "\x00", N: 0},
 	{N: math.MaxInt}, {N: math.MinInt}, {N: math.MaxInt - 7}, {Data: "\x00", N: math.MinInt + 8},
 }

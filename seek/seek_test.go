@@ -504,6 +504,20 @@ func TestNoBlocksDesk(t *testing.T) {
 	}
 }
 
+func TestReaderAheadOfAllBytes(t *testing.T) {
+	d := opened(t, streams(1, "banana"), 1, 1)
+	d.Readers[0] = api.Reader{State: api.Looking, Off: 0, N: 3}
+	if !seek.Right(d) {
+		t.Error("not right")
+	}
+	for _, off := range []int{-1, -2} {
+		d.Readers[0].Off = off
+		if seek.Right(d) {
+			t.Error("right", off)
+		}
+	}
+}
+
 func TestWhatIsWrongWithABlock(t *testing.T) {
 	a := archives()[2]
 	d := opened(t, a, 2, 2)

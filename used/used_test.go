@@ -113,6 +113,19 @@ func TestUnmapAnywhere(t *testing.T) {
 	}
 }
 
+func TestUnmapCutOff(t *testing.T) {
+	for _, x := range []string{every(), every()[3:200], "a\xffbc", "z"} {
+		m := used.Map(x)
+		for n := range len(m.Data) {
+			for _, ahead := range []int{0, 1, 50} {
+				if s, next, e := used.Unmap(strings.Repeat("\xff", ahead)+m.Data[:n], 8*ahead); s != "" || next != 0 || e != api.ErrShort {
+					t.Fatalf("%q %d: %q %d %d", x, n, s, next, e)
+				}
+			}
+		}
+	}
+}
+
 func TestUnmapWrong(t *testing.T) {
 	ab, two := of(slowMap("ab")).Data, of(slowMap("a\xff")).Data
 	for i, x := range []struct {
