@@ -1,6 +1,7 @@
 package pack_test
 
 import (
+	"encoding/hex"
 	"math"
 	"slices"
 	"strings"
@@ -95,6 +96,26 @@ func TestPack(t *testing.T) {
 			if rooms, _ := stream.Rooms(a); !slices.Equal(rooms, slices.Repeat([]int{40 * level}, len(l))) {
 				t.Fatal(level, x, rooms)
 			}
+		}
+	}
+}
+
+// What is packed is fixed bit by bit: these were worked out by the chapters alone.
+func TestPackBitByBit(t *testing.T) {
+	for _, x := range []struct {
+		text  string
+		level int
+		want  string
+	}{
+		{"banana", 1, "504d6b31314159265359efb6ec010003020060024000431ea0cc2178bb9229c284877db76008"},
+		{strings.Repeat("a", 300), 1, "504d6b31314159265359a74ae11b00052201004040000010400041547a0cc795185dc914e142429d2b846c"},
+		{every()[:41], 1, "504d6b31314159265359546b78ad0000e000ffffffffff00400140600000c0000030000060000052ebf0c72cf4d76df8e7aefcf7efc0110c8531d0952d8d73e1194e953141592653590fdc1b13000020000080400042308d05dc914e142429c2ba9240"},
+		{"the quick brown fox jumps over the lazy dog, and the dog sleeps on and on", 2, "504d6b32314159265359ff8690390041230080087fffffe04001d554429e8868d34c007a8229e243000003d1cc0b0ab3449c772584c63e12144d6cca2c19f347517ab91424817471bb7282c680ce4034f4ed8bb9229c28487fc3481c80"},
+		{strings.Repeat("\x00\xff", 20) + strings.Repeat("\x80", 9), 9, "504d6b39314159265359c935b2f50000808184008000000140008121a0906ac8085421c5dc914e1424324d6cbd40"},
+	} {
+		a, e := pack.Pack(x.text, x.level)
+		if hex.EncodeToString([]byte(a)) != x.want || e != api.OK {
+			t.Errorf("%q %d: %x %d", x.text, x.level, a, e)
 		}
 	}
 }
