@@ -12,6 +12,17 @@ func need(ok bool, e api.Errno) {
 	}
 }
 
+// caught does something, and tells what went up from it.
+func caught(do func()) (e api.Errno) {
+	defer func() {
+		if w, ok := recover().(wrong); ok {
+			e = w.e
+		}
+	}()
+	do()
+	return api.OK
+}
+
 // Right tells whether bits may be.
 func Right(b api.Bits) bool {
 	if b.N < 0 || len(b.Data) != holding(b.N) {
@@ -30,43 +41,41 @@ func holding(n int) int {
 }
 
 // Put is bits with the n lowest ones of v behind them.
-func Put(b api.Bits, v uint64, n int) (all api.Bits, e api.Errno) {
-	defer func() {
-		if w, ok := recover().(wrong); ok {
-			all, e = api.Bits{}, w.e
-		}
-	}()
-	var r row
-	r.join(b)
-	need(0 <= n && n <= 64, api.ErrArg)
-	r.lay(v, n)
-	return r.bits(), api.OK
+func Put(b api.Bits, v uint64, n int) (api.Bits, api.Errno) {
+	return grown(func(r *row) {
+		r.join(b)
+		need(0 <= n && n <= 64, api.ErrArg)
+		r.lay(v, n)
+	})
 }
 
 // Cat is all of some bits, one behind the other.
-func Cat(l ...api.Bits) (all api.Bits, e api.Errno) {
-	defer func() {
-		if w, ok := recover().(wrong); ok {
-			all, e = api.Bits{}, w.e
+func Cat(l ...api.Bits) (api.Bits, api.Errno) {
+	return grown(func(r *row) {
+		for _, b := range l {
+			r.join(b)
 		}
-	}()
+	})
+}
+
+// grown is what is laid, if nothing goes wrong with it.
+func grown(lay func(r *row)) (api.Bits, api.Errno) {
 	var r row
-	for _, b := range l {
-		r.join(b)
+	if e := caught(func() { lay(&r) }); e != api.OK {
+		return api.Bits{}, e
 	}
 	return r.bits(), api.OK
 }
 
 // Get is some of a text's bits, as a number.
-func Get(s string, at, n int) (v uint64, e api.Errno) {
-	defer func() {
-		if w, ok := recover().(wrong); ok {
-			v, e = 0, w.e
-		}
-	}()
-	need(0 <= n && n <= 64 && at >= 0, api.ErrArg)
-	need(has(s, at, n), api.ErrShort)
-	return take(s, at, n), api.OK
+func Get(s string, at, n int) (uint64, api.Errno) {
+	var v uint64
+	e := caught(func() {
+		need(0 <= n && n <= 64 && at >= 0, api.ErrArg)
+		need(has(s, at, n), api.ErrShort)
+		v = take(s, at, n)
+	})
+	return v, e
 }
 
 // Same tells whether bits stand somewhere in a text.
